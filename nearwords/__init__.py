@@ -1,0 +1,1 @@
+"""Words that are nearly others: call nearwords.desk.answers."""
