@@ -35,17 +35,26 @@ def next_row(way, table, last_row_of, byte, t):
     """The row for one more byte of s; last_row_of tells the row in which each earlier byte was last added."""
     i = len(table)
     above = table[i - 1]
-    row = [i]
+    replaced = EDITS_TO_REPLACE[way]
+    fewest = i
+    row = [fewest]
     last_match = 0
     for j in range(1, len(t) + 1):
         other = t[j - 1]
-        replaced = 0 if byte == other else EDITS_TO_REPLACE[way]
-        fewest = min(above[j] + 1, row[j - 1] + 1, above[j - 1] + replaced)
-        if way == ALL_FOUR:
-            fewest = min(fewest, changed_about(table, last_row_of.get(other, 0), last_match, i, j))
-        row.append(fewest)
         if byte == other:
+            # A byte that can stay as it is does: no edit of it makes the words nearer.
+            fewest = above[j - 1]
             last_match = j
+        else:
+            # Compared one by one and not by min: near comes here for every byte of every word.
+            fewest += 1
+            if above[j] + 1 < fewest:
+                fewest = above[j] + 1
+            if above[j - 1] + replaced < fewest:
+                fewest = above[j - 1] + replaced
+            if way == ALL_FOUR and last_match > 0 and other in last_row_of:
+                fewest = min(fewest, changed_about(table, last_row_of[other], last_match, i, j))
+        row.append(fewest)
     return row
 
 
@@ -56,9 +65,6 @@ def changed_about(table, first_row, first_column, i, j):
     them in t is put in after. No pair that is further apart need be tried: since cutting out and putting in
     a byte costs as much as changing about twice, the last pair is always as good (Lowrance and Wagner).
     """
-    if first_row == 0 or first_column == 0:
-        # There is no such pair; as many edits as this always do.
-        return i + j
     cut_out = i - first_row - 1
     put_in = j - first_column - 1
     return table[first_row - 1][first_column - 1] + cut_out + 1 + put_in

@@ -1,4 +1,4 @@
-"""What is asked of every way and every word before a call is answered."""
+"""What is asked of a call's ways, words and lengths before it is answered."""
 
 LAST_WAY = 3
 LONGEST = 32
@@ -11,3 +11,7 @@ def no_such_way(way):
 
 def too_long(word):
     return len(word) > LONGEST
+
+
+def no_such_run(q):
+    return q < 1 or q > LONGEST

@@ -11,12 +11,22 @@ KINDS_OF_WAY = {
     2: (PUT_IN, CUT_OUT, SET, CHANGE_ABOUT),
     3: (SET,),
 }
+GREATEST = 2147483647
+LEAST = -2147483648
+
+
+def numbers_of(word):
+    return [ord(sign) for sign in word] if isinstance(word, str) else list(word)
 
 
 def row(word):
     """A text or a row of numbers, with how many it has before it."""
-    numbers = [ord(sign) for sign in word] if isinstance(word, str) else list(word)
+    numbers = numbers_of(word)
     return [len(numbers)] + numbers
+
+
+def joined(lists):
+    return list(itertools.chain.from_iterable(lists))
 
 
 def far_call(way, s, t):
@@ -33,6 +43,43 @@ def common_call(s, t):
 
 def shares_call(s, t, c):
     return [3] + row(s) + row(t) + row(c)
+
+
+def grams_call(q, s, t):
+    return [4, q] + row(s) + row(t)
+
+
+def add_call(s):
+    return [5] + row(s)
+
+
+def near_call(way, k, i, s):
+    return [6, way, k, i] + row(s)
+
+
+def count_call(way, k, s):
+    return [7, way, k] + row(s)
+
+
+def ask_all(calls):
+    """What is answered to each of the calls, which are asked in one list."""
+    given = answers(joined(calls))
+    answered = []
+    while given:
+        size = given.pop(0)
+        answered.append(given[:size])
+        given = given[size:]
+    if len(answered) != len(calls):
+        raise AssertionError(f"not one answer for each call: {answered}")
+    return answered
+
+
+def ask_with(words, calls):
+    """What is answered to each of the calls once the words are in the dictionary, which has no others."""
+    answered = ask_all([add_call(word) for word in words] + list(calls))
+    if answered[:len(words)] != [[0]] * len(words):
+        raise AssertionError(f"not all were added: {answered[:len(words)]}")
+    return answered[len(words):]
 
 
 def ask(call):
@@ -57,6 +104,38 @@ def common(s, t):
 
 def shares(s, t, c):
     return ask(shares_call(s, t, c))
+
+
+def grams(q, s, t):
+    return ask(grams_call(q, s, t))
+
+
+def near(words, way, k, i, s):
+    """How far the one with i before it is, and the word; or what is answered in its place."""
+    answered = ask_with(words, [near_call(way, k, i, s)])[0]
+    if answered[0] < 0:
+        return answered
+    return answered[0], answered[1:]
+
+
+def ranking(words, way, k, s):
+    """Every word that near finds, with how far it is, in near's order; what comes behind the last one is left out."""
+    answered = ask_with(words, [near_call(way, k, i, s) for i in range(len(words) + 1)])
+    found = [answer for answer in answered if answer != [-2]]
+    if answered != found + [[-2]] * (len(answered) - len(found)):
+        raise AssertionError(f"none, and then another: {answered}")
+    return [(answer[0], answer[1:]) for answer in found]
+
+
+def text_ranking(words, way, k, s):
+    return [(far, "".join(map(chr, word))) for far, word in ranking(words, way, k, s)]
+
+
+def count(words, way, k, s):
+    answered = ask_with(words, [count_call(way, k, s)])[0]
+    if len(answered) != 1:
+        raise AssertionError(f"not one number: {answered}")
+    return answered[0]
 
 
 def edit(kind, place, byte=0):
